@@ -41,31 +41,50 @@ func (p *putter) given(n int) int {
 	}
 }
 
-// put: what a type comes to, and whether it is another one. What stays is shared with what was handed in: what is put in may stand at many places, and would not fit if it were laid anew at each.
-func (p *putter) put(t *api.TT) (api.TT, bool) {
-	out := *t
-	outer := p.numbers.depth()
-	switch {
-	case t.Kind == api.GVar:
-		as, bound := p.numbers.find(t.N)
-		if !bound && t.N == p.n {
-			return p.by, true
-		}
-		if bound {
-			out.N = as
-		}
-	case binds(t):
-		out.N = p.given(t.N)
-		p.numbers.bind(t.N, out.N)
+// stands: is this type one in whose place the other one is put?
+func (p *putter) stands(t *api.TT) bool {
+	if t.Kind != api.GVar || t.N != p.n {
+		return false
 	}
-	kids, other := p.putAll(t.Kids)
-	out.Kids = kids
-	p.numbers.back(outer)
-	return out, other || out.N != t.N
+	_, bound := p.numbers.find(t.N)
+	return !bound
 }
 
-func (p *putter) putAll(l []api.TT) ([]api.TT, bool) {
-	return each(l, func(i int) (api.TT, bool) { return p.put(&l[i]) })
+// renumbered: binds what a type binds in its Kids, and answers the N that it comes to.
+func (p *putter) renumbered(t *api.TT) int {
+	switch {
+	case t.Kind == api.GVar:
+		if as, bound := p.numbers.find(t.N); bound {
+			return as
+		}
+	case binds(t):
+		n := p.given(t.N)
+		p.numbers.bind(t.N, n)
+		return n
+	}
+	return t.N
+}
+
+// put: a list with what each of its types comes to, and whether one of them is another one. What stays is shared with what was handed in: what is put in may stand at many places, and would not fit if it were laid anew at each. (A list at a time, by one function alone: types that were put into one another may be nested as deep as they have nodes, and a level must take little of the stack.)
+func (p *putter) put(l []api.TT) (out []api.TT, other bool) {
+	out = l
+	for i := range l {
+		stands, outer := p.stands(&l[i]), p.numbers.depth()
+		n := p.renumbered(&l[i])
+		kids, otherKids := p.put(l[i].Kids)
+		p.numbers.back(outer)
+		if !stands && !otherKids && n == l[i].N {
+			continue
+		}
+		if !other {
+			out, other = slices.Clone(l), true
+		}
+		out[i].N, out[i].Kids = n, kids
+		if stands {
+			out[i] = p.by
+		}
+	}
+	return out, other
 }
 
 // putIn: the same of a term.
@@ -74,35 +93,23 @@ func (p *putter) putIn(m *api.TM) (api.TM, bool) {
 	if hidesNumber(m) {
 		out.N = p.given(m.N)
 	}
-	types, otherTypes := p.putAll(m.Types)
-	kids, otherKids := each(m.Kids, func(i int) (api.TM, bool) {
+	types, otherTypes := p.put(m.Types)
+	kids, otherKids := m.Kids, false
+	for i := range m.Kids {
 		outer := p.numbers.depth()
 		if bindsIn(m, i) {
 			p.numbers.bind(m.N, out.N)
 		}
 		kid, other := p.putIn(&m.Kids[i])
 		p.numbers.back(outer)
-		return kid, other
-	})
-	out.Types, out.Kids = types, kids
-	return out, otherTypes || otherKids || out.N != m.N
-}
-
-// each: a list with what is made of each of its elements, by number; the same list, if none of them is another one.
-func each[E any](l []E, made func(int) (E, bool)) ([]E, bool) {
-	var out []E
-	for i := range l {
-		e, other := made(i)
 		if !other {
 			continue
 		}
-		if out == nil {
-			out = slices.Clone(l)
+		if !otherKids {
+			kids, otherKids = slices.Clone(m.Kids), true
 		}
-		out[i] = e
+		kids[i] = kid
 	}
-	if out == nil {
-		return l, false
-	}
-	return out, true
+	out.Types, out.Kids = types, kids
+	return out, otherTypes || otherKids || out.N != m.N
 }

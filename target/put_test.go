@@ -238,6 +238,23 @@ func TestP904Deep(t *testing.T) {
 	}
 }
 
+// TestP904Deeper: types that are put into one another are nested far deeper than a right type may be.
+func TestP904Deeper(t *testing.T) {
+	const deeper = 1 << 20
+	for _, kind := range []int{api.GRec, api.GMu} {
+		a := target.Put(chain(kind, deeper, v(-1)), -1, v(-2))
+		if got := target.FreeTypes(a); !slices.Equal(got, []int{-2}) {
+			t.Errorf("FreeTypes: %v", got)
+		}
+		if got := target.Size(a, deeper); got != deeper {
+			t.Errorf("Size: %d", got)
+		}
+		if !target.SameType(a, chain(kind, deeper, v(-2))) || target.SameType(a, chain(kind, deeper, v(-1))) {
+			t.Error("SameType")
+		}
+	}
+}
+
 // TestP904Great: what is put in may be great, and stand at many places.
 func TestP904Great(t *testing.T) {
 	by := sum(slices.Repeat([]api.TT{v(1)}, 100000)...)
