@@ -91,7 +91,7 @@ func TestNamedFirst(t *testing.T) {
 		{m: lam("x", v(8), large()), want: none}, {m: lam("x", v(9), large()), want: big}, {m: fix("f", "x", v(8), unit(), large()), want: none}, {m: fix("f", "x", unit(), v(8), large()), want: none}, {m: fix("f", "x", unit(), v(9), large()), want: big},
 		{m: inj(0, sum(unit(), v(8)), large()), want: none}, {m: inj(0, unit(), large()), want: none}, {m: inj(2, two, large()), want: none}, {m: inj(1, two, large()), want: big}, {m: inj(0, sum(integer()), large()), want: big},
 		{m: fold(mu(1, v(8)), large()), want: none}, {m: fold(two, large()), want: none}, {m: fold(list, large()), want: big}, {m: inst(v(8), large()), want: none}, {m: inst(v(9), large()), want: big},
-		{m: pack(v(8), packed, large()), want: none}, {m: pack(unit(), some(1, v(8)), large()), want: none}, {m: pack(unit(), unit(), large()), want: none}, {m: pack(unit(), packed, large()), want: big},
+		{m: pack(v(8), packed, large()), want: none}, {m: pack(unit(), some(1, v(8)), large()), want: none}, {m: pack(unit(), unit(), large()), want: none}, {m: pack(unit(), all(1, v(1)), large()), want: none}, {m: fold(all(1, v(1)), large()), want: none}, {m: fold(some(1, v(1)), large()), want: none}, {m: pack(unit(), packed, large()), want: big},
 		{m: xall(9, large()), want: none}, {m: xall(3, large()), want: big}, {m: xall(3, xall(3, large())), want: none}, {m: xall(9, bad()), want: none},
 	})
 }
