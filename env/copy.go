@@ -4,27 +4,17 @@ import (
 	"slices"
 
 	"wafer/api"
+	"wafer/renew"
 )
 
-// fresh: a list in new memory, in which renew lays the lists of each element anew.
-func fresh[E any](l []E, renew func(*E)) []E {
-	l = slices.Clone(l)
-	for i := range l {
-		renew(&l[i])
-	}
-	return l
-}
-
-func renewType(t *api.Type) { t.Kids = fresh(t.Kids, renewType) }
-
-func renewCtor(c *api.Ctor) { c.Args = fresh(c.Args, renewType) }
+func renewCtor(c *api.Ctor) { c.Args = renew.List(c.Args, renew.Type) }
 
 func renewTyMember(m *api.TyMember) {
-	renewType(&m.T)
-	m.Ctors = fresh(m.Ctors, renewCtor)
+	renew.Type(&m.T)
+	m.Ctors = renew.List(m.Ctors, renewCtor)
 }
 
-func renewValMember(m *api.ValMember) { renewType(&m.S.T) }
+func renewValMember(m *api.ValMember) { renew.Type(&m.S.T) }
 
 func renewSubMember(m *api.SubMember) { renewStr(&m.S) }
 
@@ -33,11 +23,11 @@ func renewFunMember(m *api.FunMember) { renewFunctor(&m.F) }
 func renewSigMember(m *api.SigMember) { renewAbs(&m.A) }
 
 func renewStr(s *api.Str) {
-	s.Types = fresh(s.Types, renewTyMember)
-	s.Vals = fresh(s.Vals, renewValMember)
-	s.Subs = fresh(s.Subs, renewSubMember)
-	s.Funs = fresh(s.Funs, renewFunMember)
-	s.Sigs = fresh(s.Sigs, renewSigMember)
+	s.Types = renew.List(s.Types, renewTyMember)
+	s.Vals = renew.List(s.Vals, renewValMember)
+	s.Subs = renew.List(s.Subs, renewSubMember)
+	s.Funs = renew.List(s.Funs, renewFunMember)
+	s.Sigs = renew.List(s.Sigs, renewSigMember)
 }
 
 func renewAbs(a *api.Abs) {
@@ -51,43 +41,32 @@ func renewFunctor(f *api.Fun) {
 	renewAbs(&f.Res)
 }
 
-func renewTargetType(t *api.TT) {
-	t.Labels = slices.Clone(t.Labels)
-	t.Kids = fresh(t.Kids, renewTargetType)
-}
-
-func renewTerm(x *api.TM) {
-	x.Labels = slices.Clone(x.Labels)
-	x.Types = fresh(x.Types, renewTargetType)
-	x.Kids = fresh(x.Kids, renewTerm)
-}
-
 func renewVal(v *Val) {
-	renewType(&v.S.T)
-	renewTerm(&v.X)
+	renew.Type(&v.S.T)
+	renew.Term(&v.X)
 }
 
 func renewCon(c *Con) {
-	renewType(&c.T)
-	c.Args = fresh(c.Args, renewType)
-	c.All = fresh(c.All, renewCtor)
-	renewTerm(&c.X)
-	renewTerm(&c.Out)
+	renew.Type(&c.T)
+	c.Args = renew.List(c.Args, renew.Type)
+	c.All = renew.List(c.All, renewCtor)
+	renew.Term(&c.X)
+	renew.Term(&c.Out)
 }
 
 func renewTyp(t *Typ) {
-	renewType(&t.T)
-	t.Ctors = fresh(t.Ctors, renewCtor)
+	renew.Type(&t.T)
+	t.Ctors = renew.List(t.Ctors, renewCtor)
 }
 
 func renewSub(s *Sub) {
 	renewStr(&s.S)
-	renewTerm(&s.X)
+	renew.Term(&s.X)
 }
 
 func renewFun(f *Fun) {
 	renewFunctor(&f.F)
-	renewTerm(&f.X)
+	renew.Term(&f.X)
 }
 
 func renewSig(s *Sig) { renewAbs(&s.A) }
