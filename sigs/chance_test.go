@@ -62,10 +62,46 @@ func sigPaths(e env.Env) []string {
 	for _, g := range e.Sigs {
 		l = append(l, g.Name)
 	}
-	if s, err := e.Sub([]string{"M"}); err == api.OK && len(s.S.Sigs) > 0 {
-		l = append(l, "M.TWO", "M.N.T")
+	for i, s := range e.Subs {
+		last := !slices.ContainsFunc(e.Subs[i+1:], func(later env.Sub) bool { return later.Name == s.Name })
+		if last {
+			l = append(l, sigPathsIn(s.S, s.Name+".")...)
+		}
 	}
 	return l
+}
+
+func sigPathsIn(s api.Str, ahead string) []string {
+	var l []string
+	for _, g := range s.Sigs {
+		l = append(l, ahead+g.Name)
+	}
+	for _, one := range s.Subs {
+		l = append(l, sigPathsIn(one.S, ahead+one.Name+".")...)
+	}
+	return l
+}
+
+// place: the world, or an environment by chance; none has a stamp above 9.
+func (m *maker) place() env.Env {
+	if m.Intn(2) == 0 {
+		return world()
+	}
+	var e env.Env
+	for range m.Intn(6) {
+		e.Typs = append(e.Typs, env.Typ{Name: m.low(), T: m.typeOf(3)})
+	}
+	for range m.Intn(5) {
+		e.Subs = append(e.Subs, env.Sub{Name: m.high(), S: m.str(3)})
+		if m.Intn(2) == 0 {
+			last := &e.Subs[len(e.Subs)-1].S
+			last.Sigs = append(last.Sigs, api.SigMember{Name: m.high(), A: m.abs(2)})
+		}
+	}
+	for range 1 + m.Intn(4) {
+		e.Sigs = append(e.Sigs, env.Sig{Name: m.high(), A: m.abs(3)})
+	}
+	return e
 }
 
 func (m *maker) ty(e env.Env, depth int, open bool) api.Ty {

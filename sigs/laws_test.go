@@ -15,16 +15,16 @@ import (
 // TestElabByChance: signature expressions, right and spoiled, against the chapter's words.
 func TestElabByChance(t *testing.T) {
 	t.Parallel()
-	e := world()
 	count := map[api.Errno]int{}
 	var stamps, wheres int
 	for seed := range int64(15000) {
 		m := newMaker(seed)
+		e := m.place()
 		g := m.sig(e, 2+m.Intn(4))
 		if seed%5 == 0 {
 			m.spoil(&g)
 		}
-		next := chosen(m, []int{5, 5, 5, 77, 1 << 30, 5 + m.Intn(1000), -1, 1<<30 + 1})
+		next := chosen(m, []int{10, 10, 10, 77, 1 << 30, 10 + m.Intn(1000), -1, 1<<30 + 1})
 		a, behind, err := sigs.Elab(e, g, next)
 		is, end, code := plainElab(e, g, next)
 		if got, want := answered(next, a, behind, err), answered(next, is, end, code); got != want {
@@ -192,8 +192,13 @@ func otherwise(m *maker, e env.Env, l [][]string) env.Env {
 		Vals: []env.Val{{Name: "x", S: api.Scheme{T: boolean()}}, {Name: "t", S: api.Scheme{T: stamp(3)}}},
 		Cons: []env.Con{{Name: "A", T: stamp(40)}},
 		Funs: []env.Fun{{Name: "M"}, {Name: "T"}},
-		Typs: []env.Typ{{Name: "t", T: integer()}, {Name: "u", T: integer()}},
-		Subs: []env.Sub{{Name: "M", S: str(typ("t", integer()))}},
+	}
+	// Entries that are hidden by those that count.
+	for _, t := range e.Typs {
+		out.Typs = append(out.Typs, env.Typ{Name: t.Name, T: integer()})
+	}
+	for _, s := range e.Subs {
+		out.Subs = append(out.Subs, env.Sub{Name: s.Name, S: str(typ("t", integer()))})
 	}
 	for _, t := range e.Typs {
 		if slices.Contains(first, t.Name) {
@@ -235,10 +240,10 @@ func otherwise(m *maker, e env.Env, l [][]string) env.Env {
 // TestOthers: what no path of a signature tells makes no difference.
 func TestOthers(t *testing.T) {
 	t.Parallel()
-	e := world()
 	right := 0
 	for seed := range int64(6000) {
 		m := newMaker(seed)
+		e := m.place()
 		g := m.sig(e, 2+m.Intn(3))
 		got, want := elab(otherwise(m, e, paths(g)), g, 50), elab(e, g, 50)
 		if got != want {
@@ -256,12 +261,12 @@ func TestOthers(t *testing.T) {
 // TestUnlikeNext: two calls with unlike next make what is the same, and so many stamps.
 func TestUnlikeNext(t *testing.T) {
 	t.Parallel()
-	e := world()
 	right := 0
 	for seed := range int64(6000) {
 		m := newMaker(seed)
+		e := m.place()
 		g := m.sig(e, 2+m.Intn(3))
-		one, two := 5+m.Intn(40), chosen(m, []int{5, 60, 1 << 30, 100 + m.Intn(1000)})
+		one, two := 10+m.Intn(40), chosen(m, []int{10, 60, 1 << 30, 100 + m.Intn(1000)})
 		a, behind, err := sigs.Elab(e, g, one)
 		b, end, code := sigs.Elab(e, g, two)
 		if err != code || behind-one != end-two || len(a.Stamps) != len(b.Stamps) || !env.SameAbs(a, b) {
@@ -285,10 +290,10 @@ func TestUnlikeNext(t *testing.T) {
 // TestWhereOfElab: Elab of an SWhere is Where of Elab of its Sig.
 func TestWhereOfElab(t *testing.T) {
 	t.Parallel()
-	e := world()
 	count := map[api.Errno]int{}
 	for seed := range int64(8000) {
 		m := newMaker(seed)
+		e := m.place()
 		g := m.sig(e, 4)
 		a, behind, err := sigs.Elab(e, g, 50)
 		if err != api.OK {
@@ -316,11 +321,11 @@ func TestWhereOfElab(t *testing.T) {
 // TestFree: no stamp is free in what Elab answers that was not free in the environment; what comes is in order, and right.
 func TestFree(t *testing.T) {
 	t.Parallel()
-	e := world()
-	there := e.Stamps()
 	some := 0
 	for seed := range int64(6000) {
 		m := newMaker(seed)
+		e := m.place()
+		there := e.Stamps()
 		g := m.sig(e, 2+m.Intn(3))
 		a, _, err := sigs.Elab(e, g, 50)
 		if err != api.OK {
