@@ -8,6 +8,7 @@ import (
 
 	"wafer/api"
 	"wafer/env"
+	"wafer/kernel"
 	"wafer/modules"
 	"wafer/sigs"
 	"wafer/tree"
@@ -243,20 +244,17 @@ func TestP1903Apply(t *testing.T) {
 		same(t, c.arg, w.apply(t, f, arg), c.want)
 	}
 	// The argument's stamps come first, in their order, then the new ones in that of Res.
-	h := env.Fun{Name: "H", X: v("H"), F: api.Fun{
+	// Terms may have the names that those who make terms bind.
+	h := env.Fun{Name: "H", X: v("argument"), F: api.Fun{
 		Stamps: ints(60), Arg: str(typ("t", stamp(60))),
 		Res: abs(ints(62, 61, 63), typ("a", stamp(61)), typ("b", stamp(62)), typ("c", stamp(60)), typ("t", pair(stamp(62), stamp(60)))),
 	}}
 	e := env.Env{Funs: []env.Fun{h}}
-	arg := modules.Made{A: abs(ints(46, 45, 44), typ("t", pair(stamp(45), stamp(46)))), X: v("argument"), Next: 80}
-	e.Subs = []env.Sub{{Name: "argument", X: v("other")}}
+	arg := modules.Made{A: abs(ints(46, 45, 44), typ("t", pair(stamp(45), stamp(46)))), X: v("both"), Next: 80}
 	p := placed(e)
-	argument := arg
-	// The kernel is told of the names that the terms have, whatever they are; one of them has the argument's stamps bound.
-	ex, _ := absType(arg.A)
-	p.l = append(p.l, bindOf("argument", ex))
-	same(t, "order", p.apply(t, h, argument), "type a = ?1; type b = ?2; type c = ?3 * ?4; type t = ?2 * (?3 * ?4) | 4 to 83")
-	m, err := modules.Apply(h, argument)
+	p.l = append(p.l, bindOf("both", must(absType(arg.A))))
+	same(t, "order", p.apply(t, h, arg), "type a = ?1; type b = ?2; type c = ?3 * ?4; type t = ?2 * (?3 * ?4) | 4 to 83")
+	m, err := modules.Apply(h, arg)
 	if err != api.OK || tell(m.A.Stamps) != tell(ints(46, 45, 80, 81)) {
 		t.Errorf("%s: %v", code(err), m.A.Stamps)
 	}
@@ -351,15 +349,17 @@ func TestP1904Seal(t *testing.T) {
 			t.Errorf("%s :> %s: %s, want the signature itself", c.m, c.g, lines(is.A))
 		}
 	}
-	// Stamps stay in their order.
-	m := modules.Made{A: abs(ints(9, 7, 8), typ("a", stamp(7)), typ("b", stamp(8)), typ("c", stamp(9))), X: v("M"), Next: 10}
-	got, err := modules.Seal(m, abs(ints(12, 11), typ("a", stamp(11)), typ("c", stamp(12))), false)
-	if err != api.OK || tell(got.A.Stamps) != tell(ints(9, 7)) || got.Next != 10 {
-		t.Errorf("%s: %v, %d", code(err), got.A.Stamps, got.Next)
+	// Stamps stay in their order; the term may have a name that those who make terms bind.
+	m := modules.Made{A: abs(ints(9, 7, 8), typ("a", stamp(7)), typ("b", stamp(8)), typ("c", stamp(9)), val("x", stamp(7))), X: v("argument"), Next: 10}
+	p := spot{l: []kernel.Bind{bindOf("argument", must(absType(m.A)))}}
+	a := abs(ints(12, 11), typ("a", stamp(11)), typ("c", stamp(12)), val("x", stamp(11)))
+	same(t, "order", p.seal(t, m, a, false), "type a = ?1; type c = ?2; val x: ?1 | 2 to 10")
+	same(t, "order", p.seal(t, m, a, true), "type a = ?1; type c = ?2; val x: ?1 | 2 to 10")
+	if got := must(modules.Seal(m, a, false)); tell(got.A.Stamps) != tell(ints(9, 7)) {
+		t.Errorf("%v", got.A.Stamps)
 	}
-	got, err = modules.Seal(m, abs(ints(12, 11), typ("a", stamp(11)), typ("c", stamp(12))), true)
-	if err != api.OK || tell(got.A.Stamps) != tell(ints(12, 11)) || got.Next != 10 {
-		t.Errorf("%s: %v, %d", code(err), got.A.Stamps, got.Next)
+	if got := must(modules.Seal(m, a, true)); tell(got.A.Stamps) != tell(ints(12, 11)) {
+		t.Errorf("%v", got.A.Stamps)
 	}
 	// Put's error: what is asked, with these types, has too much.
 	wide := must(env.Env{}.Type(wideTy(500, ycon("int"))))

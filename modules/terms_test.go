@@ -154,14 +154,18 @@ func TestStamps(t *testing.T) {
 func TestShelter(t *testing.T) {
 	e := env.Env{
 		Vals: []env.Val{
+			{Name: "x", S: api.Scheme{T: integer()}, X: sel("x", v("N"))},
 			{Name: "x", S: api.Scheme{T: boolean()}, X: v("y")},
 			{Name: "y", S: api.Scheme{T: integer()}, X: v("x")},
 			{Name: "z", S: api.Scheme{T: stamp(1)}, X: sel("x", v("M"))},
 			{Name: "w", S: api.Scheme{T: boolean()}, X: api.TM{}},
 			{Name: "w", S: api.Scheme{T: integer()}, X: v("w")},
+			{Name: "none", S: api.Scheme{T: integer()}},
+			{Name: "M", S: api.Scheme{T: boolean()}, X: sel("x", v("N"))},
 		},
-		Cons: []env.Con{{Name: "K", T: stamp(1), Args: []api.Type{integer()}, All: []api.Ctor{ctor("K", integer())}, X: v("$of"), Out: v("m")}},
-		Subs: []env.Sub{{Name: "M", X: v("A 1")}, {Name: "M", S: str(val("x", stamp(1))), X: v("M")}, {Name: "N", S: str(val("x", integer())), X: v("f")}},
+		Cons: []env.Con{{Name: "K", T: stamp(1), Args: []api.Type{integer()}, All: []api.Ctor{ctor("K", integer())}, X: v("$of"), Out: v("m")}, {Name: "L", T: stamp(1), All: []api.Ctor{ctor("L")}}},
+		Funs: []env.Fun{{Name: "NONE"}},
+		Subs: []env.Sub{{Name: "M", X: v("A 1")}, {Name: "M", S: str(val("x", stamp(1))), X: v("M")}, {Name: "N", S: str(val("x", integer())), X: v("f")}, {Name: "NONE"}},
 	}
 	g := spot{e, ints(1), nil}
 	for name, t := range map[string]api.Type{"y": boolean(), "x": integer(), "w": integer(), "$of": fn(integer(), stamp(1))} {
